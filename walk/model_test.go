@@ -262,11 +262,11 @@ func slowWalk(d api.Dump, f int, q api.Point, fuel int) ([]api.Hit, bool) {
 		if fuel == 0 || !ok {
 			return way, false
 		}
-		// One that can't be moved so far is taken for none.
+		way, fuel = append(way, next), fuel-1
+		// One that can't be moved so far is come to, but is not found.
 		if _, all := cornersOf(d, next); !all {
 			return way, false
 		}
-		way, fuel = append(way, next), fuel-1
 	}
 }
 

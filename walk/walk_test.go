@@ -381,7 +381,22 @@ func TestNoMesh(t *testing.T) {
 	}
 }
 
-// P16.3, P16.4: far out a face may come on the way that can't be moved so far: it is taken for none, so that p lies in what is found.
+// P16.2, P16.3: a face across that has a corner that can't be where it is moved to is come to, and takes its fuel, but is not found: all are looked at.
+func TestComeToTooFar(t *testing.T) {
+	m := build(t, 1, []api.Point{at(0, 0)},
+		tri(0, 0, 0, off(1, -2), off(2, -1), off(1, -1)), tri(0, 0, 0, off(0, 0), off(1, 0), off(end, 1)))
+	if f, i, by, ok := m.Across(0, 0); f != 1 || i != 2 || by != off(1, -1) || !ok {
+		t.Fatal(f, i, by, ok)
+	}
+	for _, fuel := range fuels() {
+		is(t, m, 0, at(0, 0), fuel, answer{0, off(-2, 1), min(max(fuel, 0), 1), true})
+		is(t, m, 0, at(-7, 9), fuel, answer{0, off(-9, 10), min(max(fuel, 0), 1), true})
+	}
+	is(t, m, 0, at(0, 0), 1, answer{0, off(-2, 1), 1, true})
+	is(t, m, 0, at(0, 0), 40, answer{0, off(-2, 1), 1, true})
+}
+
+// P16.3, P16.4: far out a face may come on the way that can't be moved so far: it is come to, but p does not lie in it.
 func TestTooFarOnTheWay(t *testing.T) {
 	const side = 1 << 34
 	a, b, top := at(63*side, 10*side), at(63*side+side/2, 10*side), at(63*side, 11*side)
@@ -389,18 +404,96 @@ func TestTooFarOnTheWay(t *testing.T) {
 	q := at(side/2, side/3)
 	home := [3]api.Point{at(0, 1), at(side-1, 5), at(side/2, side-1)}
 	back := func(p api.Point) api.Point { return at(p.X-2*side, p.Y) }
-	for _, x := range []struct {
-		low  api.Point
-		come int
-	}{
-		{at(64*side, 9*side), 1}, {at(64*side+1, 9*side), 0}, {at(64*side+side/4, 9*side), 0}, {at(66*side-1, 9*side), 0},
-	} {
+	for _, low := range []api.Point{at(64*side, 9*side), at(64*side+1, 9*side), at(64*side+side/4, 9*side), at(66*side-1, 9*side)} {
 		// The face below is put two sides to the left of where it comes on the way.
-		below := [3]api.Point{back(b), back(a), back(x.low)}
+		below := [3]api.Point{back(b), back(a), back(low)}
 		m := laid(t, side, first, below, home)
-		is(t, m, 0, q, 1000, answer{2, off(0, 0), x.come, true})
+		is(t, m, 0, q, 1000, answer{2, off(0, 0), 1, true})
+		is(t, m, 0, q, 1, answer{2, off(0, 0), 1, true})
 		is(t, m, 0, q, 0, answer{2, off(0, 0), 0, true})
 		is(t, laid(t, side, first, below), 0, q, 1000, none)
+	}
+}
+
+// leading is a mesh of the side 10000, which holds 500 10 (or 10 500, if it is flipped) in its face 0, and has a strip of so many faces, from the one with the greatest number on, that lead to the face 1, put three sides off, whose far corner comes at x on the way.
+func leading(t *testing.T, many int, x int64, flipped bool) *mesh.Mesh {
+	t.Helper()
+	const side = 10000
+	knot := func(k int) api.Point { return at(side+4*int64(k), 5+10*int64(k%2)) }
+	wide := [3]api.Point{at(x+3*side, 10), at(4*side, 5), at(4*side+4, 15)}
+	faces := [][3]api.Point{{at(100, 1), at(900, 1), at(500, 900)}, wide}
+	for k := range many {
+		// Each second one stands on its head.
+		up := k % 2
+		faces = append(faces, [3]api.Point{knot(k), knot(k + 2 - up), knot(k + 1 + up)})
+	}
+	for i, c := range faces {
+		if flipped {
+			faces[i] = [3]api.Point{at(c[0].Y, c[0].X), at(c[2].Y, c[2].X), at(c[1].Y, c[1].X)}
+		}
+	}
+	return laid(t, side, faces...)
+}
+
+// P16.2: of several faces ahead of one that can't be moved so far all are counted, and that one, too, as far as the fuel goes; one that just can be is found.
+func TestManyAheadOfTooFar(t *testing.T) {
+	for _, many := range []int{1, 2, 3, 8, 9, 999, 1000, 1001} {
+		for _, flipped := range []bool{false, true} {
+			can, cant := leading(t, many, -end, flipped), leading(t, many, -end-1, flipped)
+			p, left := at(500, 10), off(-3, 0)
+			if flipped {
+				p, left = at(10, 500), off(0, -3)
+			}
+			for _, fuel := range []int{-1, 0, 1, 2, 3, many - 1, many, many + 1, 5000} {
+				come := min(max(fuel, 0), many, 1000)
+				is(t, cant, many+1, p, fuel, answer{0, off(0, 0), come, true})
+				if come == many {
+					is(t, can, many+1, p, fuel, answer{1, left, many, true})
+				} else {
+					is(t, can, many+1, p, fuel, answer{0, off(0, 0), come, true})
+				}
+			}
+		}
+	}
+}
+
+// tooFar puts a face across from an edge of the mesh, the third corner of which just can't be where it comes, or just can, and moves it so that it can be put.
+func tooFar(m *mesh.Mesh, r *rand.Rand) {
+	faces, side := m.Dump().Faces, m.Side()
+	u := from(faces[r.Intn(len(faces))].Tri, r.Intn(3))
+	ends := int(end/side) + 1 - r.Intn(2)
+	out := []api.Off{off(ends, r.Intn(5)-2), off(-ends, r.Intn(5)-2), off(r.Intn(5)-2, ends), off(r.Intn(5)-2, -ends)}[r.Intn(4)]
+	by := off(r.Intn(7)-3, r.Intn(7)-3)
+	m.AddFace(moved(tri(u.V[1], u.V[0], r.Intn(len(m.Dump().Verts)), u.Off[1], u.Off[0], out), by))
+}
+
+// P16.1 to P16.3: faces that were put anyhow, some of them as far out as can be and farther: all by the words, with any fuel.
+func TestAnyhowFar(t *testing.T) {
+	ended := 0
+	for seed := range int64(600) {
+		r := rand.New(rand.NewSource(seed))
+		m := anyhow(r)
+		if len(m.Dump().Faces) == 0 {
+			continue
+		}
+		for range 10 + r.Intn(20) {
+			tooFar(m, r)
+		}
+		d := m.Dump()
+		for range 12 {
+			f, q := d.Faces[r.Intn(len(d.Faces))].No, at(r.Int63n(d.Side), r.Int63n(d.Side))
+			way, ok := slowWalk(d, f, q, 20)
+			if _, all := cornersOf(d, way[len(way)-1]); !all && !ok {
+				ended++
+			}
+			for fuel := range len(way) + 1 {
+				hold(t, m, f, q, fuel)
+			}
+			hold(t, m, f, at(q.X-4*d.Side, q.Y+5*d.Side), 1000)
+		}
+	}
+	if ended < 200 {
+		t.Fatal("ended so but", ended)
 	}
 }
 
