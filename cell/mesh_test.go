@@ -8,6 +8,8 @@ import (
 
 	"zellige/api"
 	"zellige/cell"
+	"zellige/poly"
+	"zellige/rat"
 )
 
 // mesh is sites on a torus, their faces, and all cells' corners, by ids.
@@ -115,20 +117,21 @@ func (m mesh) holdSites(t *testing.T) {
 	}
 }
 
-// fill holds that all cells turn left, and have the area of the torus together: P19.4.
+// fill holds that all cells turn left, and have the area of the torus together, by poly's word, too: P19.4.
 func (m mesh) fill(t *testing.T) {
 	t.Helper()
-	sum := new(big.Rat)
+	sum, told := new(big.Rat), rat.Of(0)
 	for id, spots := range m.cells {
 		area := area2(vectors(spots))
 		if area.Sign() <= 0 {
 			t.Fatalf("of %v, n %d, %d: %v", m.l, m.n, id, texts(spots))
 		}
 		sum.Add(sum, area)
+		told = rat.Add(told, poly.Area2(spots))
 	}
 	side := new(big.Rat).SetInt64(m.n)
-	if want := times(times(side, side), big.NewRat(2, 1)); sum.Cmp(want) != 0 {
-		t.Fatalf("of %v, n %d: %v, not %v", m.l, m.n, sum, want)
+	if want := times(times(side, side), big.NewRat(2, 1)); sum.Cmp(want) != 0 || toBig(told).Cmp(want) != 0 {
+		t.Fatalf("of %v, n %d: %v, %s, not %v", m.l, m.n, sum, rat.Show(told), want)
 	}
 }
 
